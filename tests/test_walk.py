@@ -5,45 +5,8 @@ import io
 import itertools
 import unittest
 
+from lines import ABOVE, BEGIN, GREATEST, LEAST, RETURNS, TOP, all_heights, height, line, numbers, plain, steps
 from stepwalks.walk import answers
-
-BEGIN = [0]
-TOP = [3]
-ABOVE = [4]
-RETURNS = [5]
-
-LEAST = -2147483648
-GREATEST = 2147483647
-
-
-def steps(*row):
-    """The call steps with this walk; a step below 0 is handed in as the number 256 more."""
-    return [1, len(row)] + [step % 256 for step in row]
-
-
-def numbers(*row):
-    """The call steps with these numbers as they are."""
-    return [1, len(row)] + list(row)
-
-
-def height(k):
-    return [2, k]
-
-
-def line(*calls):
-    return [number for call in calls for number in call]
-
-
-def plain(*calls):
-    """What is answered to these calls behind begin, where each answers one number."""
-    told = answers(line(BEGIN, *calls))
-    assert told[0::2] == [1] * (len(calls) + 1), told
-    assert told[1] == 0, told
-    return told[3::2]
-
-
-def all_heights(count):
-    return [height(k) for k in range(count + 1)]
 
 
 class Begin(unittest.TestCase):  # point 1
