@@ -99,7 +99,8 @@ def parts_one_less(row):
     less = [[]]
     for step in row:
         bit = len(less)
-        less = less + [[smaller + bit for smaller in less[part]] + [part] for part in range(bit)]
+        for part in range(bit):
+            less.append([smaller + bit for smaller in less[part]] + [part])
     return less
 
 
